@@ -1,0 +1,1 @@
+"""Weight from readings: the calls stand in steadyweight.pan."""
